@@ -143,6 +143,8 @@ func ReadList(s string) ([]int64, bool) {
 
 func isValue(n int64) bool { return -MaxValue <= n && n <= MaxValue }
 
+func isBudget(n int64) bool { return 1 <= n && n <= MaxBudget }
+
 // Crc16 returns the check value of bytes.
 func Crc16(s string, start int64) int64 {
 	if start < 0 || start > math.MaxUint16 {
