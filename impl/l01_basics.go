@@ -34,6 +34,7 @@ const (
 	maxBlend      = 1000000
 	crcPolynomial = 4129
 	emptyList     = "-"
+	betweenLists  = ";"
 )
 
 var codeNames = [...]string{
@@ -139,6 +140,29 @@ func ReadList(s string) ([]int64, bool) {
 		list = append(list, n)
 	}
 	return list, true
+}
+
+// listsText returns the ListText of several lists, with betweenLists between them.
+func listsText(lists [][]int64) string {
+	texts := make([]string, 0, len(lists))
+	for _, list := range lists {
+		texts = append(texts, ListText(list))
+	}
+	return strings.Join(texts, betweenLists)
+}
+
+// readLists returns the lists with a listsText, of which there is at least one; nil and false if there are more than most.
+func readLists(s string, most int) ([][]int64, bool) {
+	var lists [][]int64
+	// One part more than there may be lists shows that the text goes on, however long it is.
+	for _, text := range strings.SplitN(s, betweenLists, most+1) {
+		list, ok := ReadList(text)
+		if !ok || len(lists) == most {
+			return nil, false
+		}
+		lists = append(lists, list)
+	}
+	return lists, true
 }
 
 func isValue(n int64) bool { return -MaxValue <= n && n <= MaxValue }

@@ -140,11 +140,7 @@ func drawPhrases(draw *rand.Rand, numbers, pitches []int64, most int) [][]int64 
 
 // drawnNumbers are few numbers, so that phrases overlap, or all pitches.
 func drawnNumbers(draw *rand.Rand) []int64 {
-	all := []int64{}
-	for pitch := int64(-12); pitch <= 23; pitch++ {
-		all = append(all, pitch)
-	}
-	numbers := []int64{}
+	all, numbers := allPitches(), []int64{}
 	for _, k := range draw.Perm(36)[:[]int{1, 2, 2, 3, 5, 36}[draw.Intn(6)]] {
 		numbers = append(numbers, all[k])
 	}
