@@ -43,6 +43,21 @@ func textsOver(alphabet string, most int) []string {
 	return all
 }
 
+// editsOf returns all beginnings of a text, and the text with each byte removed or replaced, and with others inserted at each place.
+func editsOf(text string, others ...string) []string {
+	all := []string{text}
+	for _, other := range others {
+		all = append(all, text+other)
+	}
+	for k := range len(text) {
+		all = append(all, text[:k], text[:k]+text[k+1:])
+		for _, other := range others {
+			all = append(all, text[:k]+other+text[k:], text[:k]+other+text[k+1:])
+		}
+	}
+	return all
+}
+
 func TestConstants(t *testing.T) {
 	got := []int64{
 		impl.OK, impl.ErrInvalid, impl.ErrRange, impl.ErrNotFound, impl.ErrExists, impl.ErrFull, impl.ErrState,

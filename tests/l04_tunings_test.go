@@ -628,13 +628,8 @@ func TestReadTuningTakesTextsOfTuningsOnly(t *testing.T) {
 	}
 	for _, u := range namedTunings() {
 		text := impl.TuningText(u)
-		for k := range len(text) {
-			check(text[:k])
-			check(text[:k] + text[k+1:])
-			for _, b := range " /0159-+aZ\n\xff" {
-				check(text[:k] + string(b) + text[k:])
-				check(text[:k] + string(b) + text[k+1:])
-			}
+		for _, edited := range editsOf(text, strings.Split(" /0159-+aZ\n\xff", "")...) {
+			check(edited)
 		}
 	}
 }

@@ -793,13 +793,8 @@ func TestReadRagaTakesTextsOfRagasOnly(t *testing.T) {
 	}
 	for _, r := range slices.Concat(namedRagas(), drawnRagas(20)) {
 		text := textAsWritten(r)
-		for k := range len(text) {
-			check(text[:k])
-			check(text[:k] + text[k+1:])
-			for _, b := range " SrGMPNad0-\t\xff" {
-				check(text[:k] + string(b) + text[k:])
-				check(text[:k] + string(b) + text[k+1:])
-			}
+		for _, edited := range editsOf(text, strings.Split(" SrGMPNad0-\t\xff", "")...) {
+			check(edited)
 		}
 	}
 	if count[true] < 500 || count[false] < 500 {

@@ -949,13 +949,8 @@ func TestReadPhrasesTakesTextsOfPhrasesOnly(t *testing.T) {
 	}
 	for _, list := range phraseLists() {
 		text := phrasesAsWritten(list)
-		for k := range len(text) {
-			count[checkRead(t, text[:k])]++
-			count[checkRead(t, text[:k]+text[k+1:])]++
-			for _, b := range ";,-0129 +\t\xff" {
-				count[checkRead(t, text[:k]+string(b)+text[k:])]++
-				count[checkRead(t, text[:k]+string(b)+text[k+1:])]++
-			}
+		for _, edited := range editsOf(text, strings.Split(";,-0129 +\t\xff", "")...) {
+			count[checkRead(t, edited)]++
 		}
 	}
 	if count[true] < 500 || count[false] < 500 {

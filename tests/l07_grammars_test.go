@@ -1224,13 +1224,8 @@ func TestReadGrammarTakesTextsOfGrammarsOnly(t *testing.T) {
 		if len(text) > 200 {
 			continue
 		}
-		for k := range len(text) {
-			check(text[:k])
-			check(text[:k] + text[k+1:])
-			for _, b := range []string{";", ",", "-", "0", "1", "2", "9", " ", "+", "\t", "\xff"} {
-				check(text[:k] + b + text[k:])
-				check(text[:k] + b + text[k+1:])
-			}
+		for _, edited := range editsOf(text, ";", ",", "-", "0", "1", "2", "9", " ", "+", "\t", "\xff") {
+			check(edited)
 		}
 	}
 	if count[true] < 500 || count[false] < 500 {

@@ -843,13 +843,8 @@ func TestReadItemTakesTextsOfItemsOnly(t *testing.T) {
 	}
 	for _, x := range goodItems() {
 		text := itemAsWritten(x)
-		for k := range len(text) {
-			check(text[:k])
-			check(text[:k] + text[k+1:])
-			for _, b := range []string{" ", ",", "-", "0", "1", "4", "9", "a", "z", "A", "+", "\t", "\xff", ";"} {
-				check(text[:k] + b + text[k:])
-				check(text[:k] + b + text[k+1:])
-			}
+		for _, edited := range editsOf(text, " ", ",", "-", "0", "1", "4", "9", "a", "z", "A", "+", "\t", "\xff", ";") {
+			check(edited)
 		}
 	}
 	if count[true] < 500 || count[false] < 500 {

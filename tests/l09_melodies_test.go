@@ -834,13 +834,8 @@ func TestReadMelodyTakesTextsOfMelodiesOnly(t *testing.T) {
 	}
 	for _, m := range append(namedMelodies(), melodies(108, 40)...) {
 		text := melodyAsWritten(m)
-		for k := range len(text) {
-			check(text[:k])
-			check(text[:k] + text[k+1:])
-			for _, b := range []string{" ", ",", "'", "-", "0", "1", "4", "9", "S", "n", "N", "a", "X", "+", "\t", "\xff", ";"} {
-				check(text[:k] + b + text[k:])
-				check(text[:k] + b + text[k+1:])
-			}
+		for _, edited := range editsOf(text, " ", ",", "'", "-", "0", "1", "4", "9", "S", "n", "N", "a", "X", "+", "\t", "\xff", ";") {
+			check(edited)
 		}
 	}
 	if count[true] < 3000 || count[false] < 3000 {
